@@ -1,0 +1,1 @@
+"""Grammars put together and compared, and sentences for every rule."""
