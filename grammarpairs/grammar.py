@@ -1,9 +1,10 @@
-"""What a grammar is, and how large it may be."""
+"""What a grammar is, and how large it and a text may be."""
 
 MOST_NONTERMINALS = 20
 MOST_RULES = 60
 MOST_SYMBOLS = 8
 HIGHEST_BYTE = 255
+MOST_BYTES = 24
 
 START = 0
 

@@ -76,3 +76,7 @@ def renamed(left, order):
 
 def without_rule(left, dropped):
     return Grammar(left.nonterminals, left.rules[:dropped] + left.rules[dropped + 1:])
+
+
+def with_rule(left, rule):
+    return Grammar(left.nonterminals, left.rules + [rule])

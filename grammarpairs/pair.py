@@ -17,3 +17,13 @@ class Pair:
         remembered = [self.left] + self.before
         self.before = remembered[:MOST_BEFORE]
         self.left = grammar
+
+    def go_back(self):
+        """Let the latest left one before be the left one again; the one that was is not remembered."""
+        self.left = self.before[0]
+        self.before = self.before[1:]
+
+    def change_sides(self):
+        was_left = self.left
+        self.become_left(self.right)
+        self.right = was_left

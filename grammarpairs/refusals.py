@@ -1,9 +1,15 @@
 """The numbers that refuse a call."""
 
 BELOW_ZERO = -1
+NO_BYTE = -1
 NO_GRAMMAR_ROW = -2
+NO_RULE = -2
+TOO_LONG = -3
 NO_SUCH_NONTERMINAL = -4
 NO_SUCH_SIDE = -5
 TOO_GREAT = -6
+NO_SUCH_LENGTH = -7
 NO_SUCH_RULE = -8
 NO_ORDER = -9
+TOO_MANY_TEXTS = -10
+NONE_BEFORE = -11

@@ -58,6 +58,15 @@ def grammar_of_row(row):
     return None
 
 
+def rule_of_row(row, nonterminals):
+    """Give the one rule that a row tells for so many nonterminals, or None if it tells none."""
+    reader = RowReader(row)
+    rule = read_rule(reader, nonterminals)
+    if reader.is_done():
+        return rule
+    return None
+
+
 def row_of_grammar(grammar):
     row = [grammar.nonterminals, len(grammar.rules)]
     for owner, symbols in grammar.rules:

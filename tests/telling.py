@@ -41,6 +41,62 @@ def drop(r):
     return [8, r]
 
 
+def add(told):
+    return [9, len(told)] + list(told)
+
+
+def undo():
+    return [10]
+
+
+def swap():
+    return [11]
+
+
+def reads(k, text):
+    """Tell a call of reads; a text is told as a str or by its bytes."""
+    told = codes(text)
+    return [12, k, len(told)] + told
+
+
+def changed():
+    return [13]
+
+
+def within(most):
+    return [14, most]
+
+
+def same(most):
+    return [15, most]
+
+
+def sentence(r, most):
+    return [16, r, most]
+
+
+def cover(most):
+    return [17, most]
+
+
+def codes(text):
+    return [ord(sign) for sign in text] if isinstance(text, str) else list(text)
+
+
+def shown(text):
+    """Tell the answer that shows a text."""
+    told = codes(text)
+    return [1, len(told)] + told
+
+
+def covered(*uses):
+    """Tell cover's answer by each text with the rules that it is the first to use."""
+    told = [0, len(uses)]
+    for text, rules in uses:
+        told += shown(text)[1:] + [len(rules)] + list(rules)
+    return told
+
+
 def symbol(word):
     """Tell a symbol: digits are a nonterminal, a letter is a byte, two letters and '-' a range."""
     if word.isdigit():
@@ -48,16 +104,27 @@ def symbol(word):
     return [1, ord(word[0]), ord(word[-1])]
 
 
+def rule(words):
+    """Tell a rule like '0: a 1 a-z'."""
+    owner, symbols = words.split(":")
+    told = [symbol(word) for word in symbols.split()]
+    return [int(owner), len(told)] + joined(told)
+
+
 def grammar(nonterminals, *rules):
-    """Tell a grammar row by rules like '0: a 1 a-z'."""
-    row = [nonterminals, len(rules)]
-    for rule in rules:
-        owner, words = rule.split(":")
-        symbols = [symbol(word) for word in words.split()]
-        row += [int(owner), len(symbols)]
-        for told in symbols:
-            row += told
-    return row
+    """Tell a grammar row by its rules' words."""
+    return [nonterminals, len(rules)] + joined([rule(words) for words in rules])
+
+
+def ranges(*bounds):
+    """Tell a grammar row with a rule for each range (lo, hi) alone."""
+    return [1, len(bounds)] + joined([[0, 1, 1, lo, hi] for lo, hi in bounds])
+
+
+def packed(*bounds):
+    """Tell a grammar row with eight ranges (lo, hi) in a rule: more of them than there may be rules."""
+    parts = [bounds[begin:begin + 8] for begin in range(0, len(bounds), 8)]
+    return [1, len(parts)] + joined([[0, len(part)] + joined([[1, lo, hi] for lo, hi in part]) for part in parts])
 
 
 def sized(nonterminals, rules):

@@ -47,6 +47,11 @@ FREE_VALUES = "count index title find get join lower upper split strip copy add"
 
 OWN_METHODS = "__init__ __eq__ __repr__ __str__ __len__".split()
 
+KEYWORDS = {
+    "sorted": "key reverse", "min": "key default", "max": "key default", "sum": "start", "enumerate": "start",
+    "zip": "strict",
+}
+
 WALKED_AT_ONCE = "zip enumerate reversed range".split()
 
 WALKERS = "list tuple dict sorted sum any all enumerate zip min max".split()
@@ -228,6 +233,32 @@ class Statements(unittest.TestCase):
                 if isinstance(operator, (ast.Is, ast.IsNot)):
                     self.assertIsInstance(value, ast.Constant, (name, node.lineno))
                     self.assertIn(value.value, (None, True, False), (name, node.lineno))
+
+    def test_powers(self):
+        for name, node in nodes(ast.BinOp):
+            if isinstance(node.op, ast.Pow):
+                self.assertIsInstance(node.right, ast.Constant, (name, node.lineno))
+                self.assertIn(node.right.value, range(65), (name, node.lineno))
+
+    def test_sets_are_asked_or_sorted_on_the_spot(self):
+        for path, _, tree in modules():
+            allowed = []
+            for node in ast.walk(tree):
+                if isinstance(node, ast.Compare):
+                    allowed += [node.left] + node.comparators
+                elif isinstance(node, ast.Call) and isinstance(node.func, ast.Name) and not node.keywords:
+                    allowed += node.args if node.func.id in ("sorted", "len") else []
+            for node in ast.walk(tree):
+                if isinstance(node, ast.Call) and isinstance(node.func, ast.Name) and node.func.id == "set":
+                    self.assertIn(node, allowed, (path, node.lineno))
+
+    def test_keywords(self):
+        for name, node in nodes(ast.Call):
+            told = [keyword.arg for keyword in node.keywords]
+            if isinstance(node.func, ast.Name) and node.func.id in KEYWORDS:
+                self.assertLessEqual(set(told), set(KEYWORDS[node.func.id].split()), (name, node.lineno))
+            elif isinstance(node.func, ast.Attribute) or node.func.id in ALLOWED_BUILTINS:
+                self.assertEqual(told, [], (name, node.lineno))
 
     def test_walked_at_once(self):
         for path, _, tree in modules():
